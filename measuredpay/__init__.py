@@ -1,0 +1,1 @@
+"""Measured and paid: a bill of work, what is measured of it, and what is certified."""
