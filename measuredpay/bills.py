@@ -1,4 +1,4 @@
-"""The bill: what is ordered and measured, what is kept back, and what is certified."""
+"""The bill: what is ordered and measured, what is kept back, certified and paid, till it is closed."""
 
 MOST_ITEMS = 10
 MOST_CERTIFICATES = 40
@@ -12,7 +12,9 @@ BEGIN = 0
 NO_SUCH = -2
 NOTHING_DUE = -6
 NOT_BEGUN = -11
+NOT_HANDED_OVER = -13
 HANDED_OVER = -16
+ALREADY = -17
 OUT_OF_RANGE = -22
 FULL = -28
 AT_ODDS = -33
@@ -36,6 +38,9 @@ class Certificate:
         self.parts = parts
         self.paid = 0
 
+    def unpaid(self):
+        return self.amount - self.paid
+
 
 class Bill:
     """All that one line of calls works on."""
@@ -56,6 +61,12 @@ class Bill:
     def has_item(self, i):
         return i < len(self.entries)
 
+    def has_certificate(self, n):
+        return n < len(self.certificates)
+
+    def all_done(self):
+        return all([entry.done == entry.ordered for entry in self.entries])
+
     def value(self):
         return sum([entry.done * entry.rate for entry in self.entries])
 
@@ -75,6 +86,9 @@ class Bill:
 
     def certified(self):
         return sum([certificate.amount for certificate in self.certificates])
+
+    def all_paid(self):
+        return sum([certificate.paid for certificate in self.certificates])
 
     def due(self):
         return max(0, self.owed() - self.certified())
@@ -193,6 +207,75 @@ def certify(bill, given):
     return [len(bill.certificates) - 1, amount]
 
 
+def pay(bill, given):
+    n = given[0]
+    cents = given[1]
+    if not bill.has_certificate(n):
+        return [NO_SUCH]
+    certificate = bill.certificates[n]
+    if cents == 0 or cents > certificate.unpaid():
+        return [OUT_OF_RANGE]
+    certificate.paid += cents
+    return [0, certificate.unpaid()]
+
+
+def still_open(bill, given):
+    n = given[0]
+    if not bill.has_certificate(n):
+        return [NO_SUCH]
+    return [0, bill.certificates[n].unpaid()]
+
+
+def split(bill, given):
+    n = given[0]
+    if not bill.has_certificate(n):
+        return [NO_SUCH]
+    return [0] + bill.certificates[n].parts
+
+
+def of_trade(bill, given):
+    t = given[0]
+    if t >= TRADES:
+        return [OUT_OF_RANGE]
+    return [0, bill.trade_value(t), bill.trade_got(t)]
+
+
+def hand(bill, given):
+    if bill.handed:
+        return [ALREADY]
+    if not bill.all_done():
+        return [AT_ODDS]
+    bill.handed = True
+    return [0, bill.due()]
+
+
+def close(bill, given):
+    if bill.closed:
+        return [ALREADY]
+    if not bill.handed:
+        return [NOT_HANDED_OVER]
+    bill.closed = True
+    return [0, bill.due()]
+
+
+def sums(bill, given):
+    return [0, bill.certified(), bill.all_paid()]
+
+
+def look(bill, given):
+    i = given[0]
+    if not bill.has_item(i):
+        return [NO_SUCH]
+    entry = bill.entries[i]
+    return [0, entry.ordered, entry.rate, entry.done, entry.trade]
+
+
+def state(bill, given):
+    handed = 1 if bill.handed else 0
+    closed = 1 if bill.closed else 0
+    return [len(bill.entries), len(bill.certificates), handed, closed]
+
+
 # By a call's number: what answers it, and how many arguments it has.
 CALLS = (
     (begin, 2),
@@ -205,6 +288,15 @@ CALLS = (
     (kept, 0),
     (due, 0),
     (certify, 0),
+    (pay, 2),
+    (still_open, 1),
+    (split, 1),
+    (of_trade, 1),
+    (hand, 0),
+    (close, 0),
+    (sums, 0),
+    (look, 1),
+    (state, 0),
 )
 
 

@@ -82,8 +82,8 @@ class Kept(unittest.TestCase):
 
     def test_closed_it_is_nothing(self):
         bill = handed_over(("begin", 200, 200), ("item", 1000, 1, 0), ("measure", 0, 1000), "certify")
-        bill.closed = True
-        self.assertEqual(tell(bill, "kept", "due", "certify", "due"), [[0, 0], [0, 200], [1, 200], [0, 0]])
+        told = tell(bill, "close", "kept", "due", "certify", "due")
+        self.assertEqual(told, [[0, 200], [0, 0], [0, 200], [1, 200], [0, 0]])
 
     def test_a_change_that_lowers_the_contract_lowers_it(self):
         line = (("begin", 100, 50), ("item", 100, 1000, 0), ("measure", 0, 60), "kept", "certify")

@@ -4,7 +4,7 @@ import itertools
 import unittest
 
 from measuredpay import bills
-from tests.lines import picture, run, tell
+from tests.lines import bill_of, picture, run, tell
 
 LINE = (("begin", 100, 200), ("item", 100, 1000, 0))
 
@@ -15,12 +15,6 @@ def certified_often(times):
     for done in range(1, times + 1):
         calls += [("measure", 0, done), "certify"]
     return calls
-
-
-def bill_of(*calls):
-    bill = bills.Bill()
-    tell(bill, *calls)
-    return bill
 
 
 class Certify(unittest.TestCase):

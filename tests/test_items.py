@@ -48,12 +48,13 @@ class AddItem(unittest.TestCase):
             self.assertEqual(last(BEGIN, *TEN, call), [-22])
 
     def test_handed_over_behind_out_of_range_and_ahead_of_full(self):
-        bill = handed_over(BEGIN, *TEN)
+        bill = handed_over(BEGIN, *TEN, *[("measure", n, n) for n in range(10)])
         before = picture(bill)
-        told = tell(bill, ("item", 10001, 1, 0), ("item", 1, 1, 0))
-        self.assertEqual(told, [[-22], [-16]])
+        told = tell(bill, ("item", 10001, 1, 0), ("item", 1, 1000001, 0), ("item", 1, 1, 4), ("item", 1, 1, 0))
+        self.assertEqual(told, [[-22], [-22], [-22], [-16]])
         self.assertEqual(picture(bill), before)
-        self.assertEqual(tell(handed_over(BEGIN), ("item", 1, 1, 0)), [[-16]])
+        self.assertEqual(last(BEGIN, "hand", ("item", 1, 1, 0)), [-16])
+        self.assertEqual(last(BEGIN, "hand", "close", ("item", 1, 1, 0)), [-16])
 
 
 class Change(unittest.TestCase):
@@ -89,11 +90,13 @@ class Change(unittest.TestCase):
         self.assertEqual(last(*self.ONE, ("change", GREATEST, GREATEST)), [-2])
 
     def test_handed_over(self):
-        bill = handed_over(*self.ONE)
-        before = picture(bill)
-        told = tell(bill, ("change", 0, 100), ("change", 1, 100), ("change", 0, 10001), ("change", 0, 39))
-        self.assertEqual(told, [[-16], [-2], [-22], [-16]])
-        self.assertEqual(picture(bill), before)
+        bill = handed_over(*self.ONE, ("measure", 0, 100))
+        calls = (("change", 0, 101), ("change", 1, 100), ("change", 1, 10001), ("change", 0, 10001), ("change", 0, 99))
+        for closing in ((), ("close",)):
+            tell(bill, *closing)
+            before = picture(bill)
+            self.assertEqual(tell(bill, *calls), [[-16], [-2], [-2], [-22], [-16]])
+            self.assertEqual(picture(bill), before)
 
 
 class Measure(unittest.TestCase):
@@ -133,11 +136,13 @@ class Measure(unittest.TestCase):
         self.assertEqual(last(*self.ONE, ("measure", 1, GREATEST)), [-2])
 
     def test_handed_over(self):
-        bill = handed_over(*self.ONE)
-        before = picture(bill)
-        told = tell(bill, ("measure", 0, 100), ("measure", 1, 100), ("measure", 0, 101))
-        self.assertEqual(told, [[-16], [-2], [-16]])
-        self.assertEqual(picture(bill), before)
+        bill = handed_over(*self.ONE, ("measure", 0, 100))
+        for closing in ((), ("close",)):
+            tell(bill, *closing)
+            before = picture(bill)
+            told = tell(bill, ("measure", 0, 99), ("measure", 1, 100), ("measure", 0, 101))
+            self.assertEqual(told, [[-16], [-2], [-16]])
+            self.assertEqual(picture(bill), before)
 
 
 if __name__ == "__main__":
